@@ -1,0 +1,1 @@
+"""A machine that sells: coins go in, goods fall, change comes out."""
